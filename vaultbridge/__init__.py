@@ -1,0 +1,1 @@
+"""Vaultbridge: moving tokens between two ledgers that fork."""
