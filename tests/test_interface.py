@@ -8,6 +8,8 @@ FUNCTIONS = {
     "config": {"other_side": "side"},
     "sets": {"is_set": "value", "total": "guards", "threshold": "guards", "minority": "guards"},
     "letters": {"is_transfer": "value", "is_letter": "value", "key": "letter"},
+    "state": {"opening_state": "config side"},
+    "gateway": {"outcome": "config notary state order", "next_height": "state"},
 }
 
 CLASSES = {
@@ -21,6 +23,28 @@ CLASSES = {
     "notary": {"Notary": {
         "__init__": "self", "seal": "self guard letter", "count": "self", "shown": "self number",
         "weight": "self guards letter seals",
+    }},
+    "chain": {"Chain": {
+        "__init__": "self side config notary", "add": "self number parent orders", "numbers": "self",
+        "parent": "self number", "height": "self number", "orders": "self number", "line": "self number",
+        "final": "self", "tips": "self", "best": "self", "state": "self number", "receipts": "self number",
+        "events": "self number",
+    }},
+    "view": {"View": {
+        "__init__": "self chain", "show": "self number", "seen": "self", "final": "self", "final_events": "self",
+    }},
+    "sheet": {"Sheet": {
+        "__init__": "self config side", "copy": "self", "balance": "self account token", "vault": "self token",
+        "move": "self sender receiver token amount", "lock": "self account token units",
+        "release": "self account token units", "mint": "self account token units", "burn": "self account token units",
+        "bonded": "self guard token", "bond": "self guard token amount", "unbond": "self guard token amount",
+        "circulating": "self token",
+    }},
+    "state": {"State": {
+        "side": "self", "height": "self", "epoch": "self", "is_stopped": "self", "stops": "self",
+        "balance": "self account token", "bonded": "self guard token", "vault": "self token",
+        "circulating": "self token", "guards": "self epoch", "transfers": "self", "taken": "self number",
+        "bonded_guards": "self token", "waiting": "self", "is_returned": "self number",
     }},
 }
 

@@ -134,8 +134,8 @@ class LanguageTest(unittest.TestCase):
                 self.assertIsInstance(node, (ast.Expr, ast.ImportFrom, ast.FunctionDef, ast.ClassDef, ast.Assign), name)
                 if isinstance(node, ast.Assign):
                     self.assertTrue(len(node.targets) == 1 and isinstance(node.targets[0], ast.Name), name)
-                    called = [part for part in ast.walk(node) if isinstance(part, (ast.Call, ast.ListComp, ast.DictComp))]
-                    self.assertEqual(called, [], name)
+                    for part in ast.walk(node):
+                        self.assertNotIsInstance(part, (ast.Call, ast.ListComp, ast.DictComp), name)
             bound = list(module_level_names(tree))
             self.assertEqual(len(bound), len(set(bound)), name)
 

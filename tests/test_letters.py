@@ -122,9 +122,10 @@ class LettersTest(unittest.TestCase):
 
     def test_edges_of_letters(self):
         transfer = ("gold", 1, 0, "a", "b", 0)
-        for letter in [("deliver", "west", 0, transfer), ("return", "east", 0, transfer), ("cancel", "west", 0, transfer),
-                       ("bundle", "east", 0, (transfer,)), ("bundle", "west", 0, (transfer,) * 8),
-                       ("rotate", "both", 1, (("a", 1),)), ("stop", "west", 0, ()), ("resume", "east", 0, ())]:
+        for letter in [("deliver", "west", 0, transfer), ("return", "east", 0, transfer),
+                       ("cancel", "west", 0, transfer), ("bundle", "east", 0, (transfer,)),
+                       ("bundle", "west", 0, (transfer,) * 8), ("rotate", "both", 1, (("a", 1),)),
+                       ("stop", "west", 0, ()), ("resume", "east", 0, ())]:
             self.assertIs(is_letter(letter), True, letter)
 
     def test_spoilt_letters(self):

@@ -42,4 +42,4 @@ def is_account(value):
 
 def is_side(value):
     """True if the value is one of the two sides."""
-    return isinstance(value, str) and value in SIDES
+    return value in SIDES
