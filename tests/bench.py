@@ -7,6 +7,7 @@ from vaultbridge.config import Config
 from vaultbridge.gateway import next_height, outcome
 from vaultbridge.notary import Notary
 from vaultbridge.state import opening_state
+from vaultbridge.view import View
 
 # a total of 4, so that the threshold is 3 and the minority 2
 GUARDS = (("g1", 1), ("g2", 1), ("g3", 1), ("g4", 1))
@@ -110,3 +111,11 @@ class Bench(unittest.TestCase):
 
 def ledger(side="west", config=None, notary=None):
     return Chain(side, config or made_config(), notary or Notary())
+
+
+def watching(chain, numbers):
+    """A view that was shown these blocks, in this order."""
+    view = View(chain)
+    for number in numbers:
+        view.show(number)
+    return view

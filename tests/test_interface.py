@@ -10,6 +10,12 @@ FUNCTIONS = {
     "letters": {"is_transfer": "value", "is_letter": "value", "key": "letter"},
     "state": {"opening_state": "config side"},
     "gateway": {"outcome": "config notary state order", "next_height": "state"},
+    "guard": {
+        "duties": "west east", "work": "west east journal", "approve": "journal number guards",
+        "bundle_work": "config west east journal", "cancel": "west east side number",
+    },
+    "relay": {"ready_orders": "config notary state relayer seals"},
+    "audit": {"shortfalls": "config west east", "open_transfers": "west east"},
 }
 
 CLASSES = {
@@ -45,6 +51,19 @@ CLASSES = {
         "balance": "self account token", "bonded": "self guard token", "vault": "self token",
         "circulating": "self token", "guards": "self epoch", "transfers": "self", "taken": "self number",
         "bonded_guards": "self token", "waiting": "self", "is_returned": "self number",
+    }},
+    "machine": {"Machine": {
+        "__init__": "self name notary", "journal": "self", "carry_out": "self steps count", "crash": "self lost",
+    }},
+    "world": {"World": {
+        "__init__": "self config liars", "chain": "self side", "notary": "self", "guards": "self",
+        "machine": "self guard", "view": "self guard side", "wait": "self side order", "waiting": "self side",
+        "mine": "self side parent chosen", "approve": "self guard number guards", "lie": "self guard letter",
+        "restart": "self guard lost", "calm_round": "self",
+    }},
+    "bag": {"Bag": {
+        "__init__": "self", "post": "self item", "items_under_way": "self", "hand_over": "self index",
+        "lose": "self index", "double": "self index",
     }},
 }
 
