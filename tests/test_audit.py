@@ -4,7 +4,7 @@ import unittest
 
 from tests.bench import GOLD, SALT, inside, made_config
 from tests.model import Model
-from tests.test_drawn import SIDES, Bridge
+from tests.test_drawn import SIDES, grown
 from vaultbridge.audit import open_transfers, shortfalls
 from vaultbridge.gateway import next_height, outcome
 from vaultbridge.notary import Notary
@@ -38,9 +38,7 @@ class DrawnAuditTest(unittest.TestCase):
     def test_drawn_states(self):
         counts = {}
         for seed in range(600, 640):
-            bridge = Bridge(seed)
-            for _ in range(30):
-                bridge.grow()
+            bridge = grown(seed, 30)
             rows = [("gold", "west", 3, 7, 5), ("salt", "east", 1, 6, 5)]
             for _ in range(3):
                 states, models = {}, {}

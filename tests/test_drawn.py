@@ -139,6 +139,14 @@ class Bridge:
         self.blocks[side].append((number, parent, orders))
 
 
+def grown(seed, many):
+    """A bridge to which drawn blocks were added, as far as its ledgers took them."""
+    bridge = Bridge(seed)
+    for _ in range(many):
+        bridge.grow()
+    return bridge
+
+
 def word_of(order):
     """What an order is counted as: its word, or the kind of its letter."""
     if order[:1] == ("take",) and len(order) == 4:
@@ -175,9 +183,7 @@ class DrawnTest(unittest.TestCase):
     def test_ledgers_are_as_a_second_telling_says(self):
         found = set()
         for seed in range(80):
-            bridge = Bridge(seed)
-            for _ in range(40):
-                bridge.grow()
+            bridge = grown(seed, 40)
             for side in SIDES:
                 self.check_line(bridge, side, found)
         wanted = {(word, outcome_word) for word in WANTED for outcome_word in WANTED[word].split()}
@@ -187,9 +193,7 @@ class DrawnTest(unittest.TestCase):
 
     def test_outcomes_one_by_one(self):
         for seed in range(100, 112):
-            bridge = Bridge(seed)
-            for _ in range(30):
-                bridge.grow()
+            bridge = grown(seed, 30)
             for side in SIDES:
                 chain = bridge.chains[side]
                 state = chain.state(chain.best())
@@ -248,9 +252,7 @@ class SecondLedgerTest(unittest.TestCase):
     def test_another_order_of_the_blocks(self):
         taken = 0
         for seed in range(200, 230):
-            bridge = Bridge(seed)
-            for _ in range(30):
-                bridge.grow()
+            bridge = grown(seed, 30)
             for side in SIDES:
                 wanted = self.told(bridge.config, bridge.chains[side])
                 second = self.again(bridge, side, self.by_height(bridge, side))
@@ -267,9 +269,7 @@ class CallerTest(unittest.TestCase):
 
     def test_lists_and_states_that_callers_get_change_nothing(self):
         for seed in range(300, 306):
-            bridge = Bridge(seed)
-            for _ in range(30):
-                bridge.grow()
+            bridge = grown(seed, 30)
             for chain in bridge.chains.values():
                 view = View(chain)
                 for number in chain.numbers():

@@ -3,7 +3,7 @@
 import unittest
 
 from tests.bench import inside, made_config, watching
-from tests.test_drawn import SETS, SIDES, Bridge
+from tests.test_drawn import SETS, SIDES, grown
 from vaultbridge.chain import Chain
 from vaultbridge.errors import AlreadyApproved, InvalidArgument, UnknownTransfer
 from vaultbridge.guard import approve, bundle_work, cancel, duties, work
@@ -71,9 +71,7 @@ def drawn_views(bridge):
 
 def drawn_bridges():
     for seed in range(400, 425):
-        bridge = Bridge(seed)
-        for _ in range(bridge.source.randint(60, 120)):
-            bridge.grow()
+        bridge = grown(seed, 60 + seed % 25 * 2)
         for _ in range(3):
             yield bridge, drawn_views(bridge)
 

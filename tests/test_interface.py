@@ -16,6 +16,8 @@ FUNCTIONS = {
     },
     "relay": {"ready_orders": "config notary state relayer seals"},
     "audit": {"shortfalls": "config west east", "open_transfers": "west east"},
+    "history": {"history": "chain number account", "supplies": "chain number token"},
+    "notation": {"write": "value", "read": "text", "read_letter": "text"},
 }
 
 CLASSES = {
@@ -65,6 +67,15 @@ CLASSES = {
         "__init__": "self", "post": "self item", "items_under_way": "self", "hand_over": "self index",
         "lose": "self index", "double": "self index",
     }},
+    "relayer": {"Relayer": {
+        "__init__": "self name config notary", "receive": "self seal", "seals": "self", "flush": "self",
+        "crash": "self lost", "orders": "self state",
+    }},
+    "node": {"Node": {
+        "__init__": "self side config notary", "chain": "self", "log": "self", "take_in": "self number parent orders",
+        "flush": "self", "crash": "self lost", "copy_from": "self other",
+    }},
+    "digests": {"Digests": {"__init__": "self", "number": "self value", "value": "self number", "count": "self"}},
 }
 
 

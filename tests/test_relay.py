@@ -4,7 +4,7 @@ import unittest
 
 from tests.bench import Bench, inside
 from tests.model import Model
-from tests.test_drawn import SIDES, Bridge
+from tests.test_drawn import SIDES, grown
 from vaultbridge.gateway import next_height, outcome
 from vaultbridge.relay import ready_orders
 
@@ -64,9 +64,7 @@ class DrawnRelayTest(unittest.TestCase):
     def test_ready_orders_are_as_a_second_telling_says(self):
         kinds = {}
         for seed in range(500, 540):
-            bridge = Bridge(seed)
-            for _ in range(25):
-                bridge.grow()
+            bridge = grown(seed, 25)
             for side in SIDES:
                 chain = bridge.chains[side]
                 for number in (chain.best(), bridge.draw(*chain.numbers())):

@@ -55,6 +55,10 @@ class Chain:
         """How far below another block a block is deep."""
         return self._config.depth()
 
+    def token_names(self):
+        """The names of the tokens, ascending."""
+        return self._config.token_names()
+
     def numbers(self):
         """The numbers of all blocks, ascending."""
         return self._blocks.numbers()
