@@ -35,6 +35,7 @@ class DigestsTest(unittest.TestCase):
 
     def test_values_without_bounds(self):
         values = [nested(depth) for depth in (9, 10, 11, 12, 200)] + [10 ** 45, "a" * 5000, ("a" * 5000,)]
+        values += [10 ** 4400, -(10 ** 4400), 10 ** 4400 + 1, (10 ** 4400,), (1, (10 ** 9000, "a"))]
         values += [nested(20, (1,)), nested(20, ("1",)), nested(20, (1, 1))]
         digests = Digests()
         for _ in range(2):

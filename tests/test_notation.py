@@ -104,9 +104,36 @@ class WriteAndReadTest(NotationCase):
                 self.assertEqual(write(signed), repr(signed))
                 self.refuses(write(signed))
                 self.refuses(write((1, signed)))
+        for digits in ("9" * 9000, "-" + "9" * 9000, "1" + "0" * 9000):
+            self.refuses(digits)
+            self.refuses("(" + digits + ")")
         self.refuses("9" * 41)
-        self.refuses("9" * 9000)
-        self.refuses("-" + "9" * 9000)
+
+    def digits_one_by_one(self, number):
+        """A second telling of the digits of an integer."""
+        found, sign = [], "-" if number < 0 else ""
+        number = abs(number)
+        while number:
+            number, digit = divmod(number, 10)
+            found.append("0123456789"[digit])
+        return sign + "".join(reversed(found)) if found else "0"
+
+    def test_integers_of_more_digits_than_are_turned_at_once(self):
+        for size in (1, 2, 63, 64, 65, 127, 128, 129, 255, 256, 257, 640, 641, 4299, 4300, 4301, 8191, 8192, 9000):
+            for value, digits in ((10 ** size, "1" + "0" * size), (10 ** size - 1, "9" * size),
+                                  (10 ** size + 1, "1" + "0" * (size - 1) + "1")):
+                self.assertEqual(write(value), digits)
+                self.assertEqual(write(-value), "-" + digits)
+                self.assertEqual(write((value, ("a", -value))), f"({digits},(1:a,-{digits}))")
+
+    def test_drawn_integers_of_many_digits(self):
+        source = random.Random(4300)
+        for _ in range(60):
+            size = source.choice([1, 10, 10 ** 64, 10 ** 65, 10 ** 130, 10 ** 1000, 10 ** 4302, 10 ** 5000])
+            value = source.choice([1, -1]) * source.randrange(size)
+            # zeros that stand where an integer is cut must not be lost
+            value = value * source.choice([1, 10 ** 64, 10 ** 70]) + source.choice([0, 0, 1])
+            self.assertEqual(write(value), self.digits_one_by_one(value))
 
     def test_deep_tuples(self):
         for depth in range(1, 11):

@@ -8,6 +8,9 @@ MOST_DIGITS = 40
 MOST_LENGTH_DIGITS = 9
 DEEPEST = 10
 
+PIECE_DIGITS = 64
+PIECE = 10 ** 64
+
 
 def write(value):
     """Returns the written form of a value."""
@@ -25,8 +28,29 @@ def write(value):
         elif isinstance(part, str):
             written.append(f"{len(part)}:{part}")
         else:
-            written.append(str(part))
+            written.append(written_integer(part))
     return "".join(written)
+
+
+def written_integer(number):
+    """An integer in decimal digits, with `-` in front if it is negative."""
+    sign = "-" if number < 0 else ""
+    return sign + digits_of(abs(number))
+
+
+def digits_of(number):
+    """The decimal digits of an integer of at least 0."""
+    # Python turns no integer of thousands of digits into a text at once, so it is halved until its pieces are short
+    powers = []
+    power = PIECE
+    while power <= number:
+        powers.append(power)
+        power = power * power
+    pieces = [number]
+    for middle in reversed(powers):
+        pieces = [half for piece in pieces for half in divmod(piece, middle)]
+    digits = "".join([str(piece).zfill(PIECE_DIGITS) for piece in pieces])
+    return digits.lstrip("0") or "0"
 
 
 def parted(parts):
