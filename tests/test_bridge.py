@@ -36,10 +36,12 @@ def flawed_set(source, is_live):
 class Run:
     """A world that is driven by drawn deeds."""
 
+    deeds = DEEDS
+
     def __init__(self, seed, is_live):
         self.source = random.Random(seed)
         self.is_live = is_live
-        self.sets = [flawed_set(self.source, is_live) for _ in range(4)]
+        self.sets = [self.drawn_set() for _ in range(4)]
         self.config = Config(
             tokens=[("gold", "west", 3, self.draw(6, 20), 6), ("salt", "east", 1, self.draw(8, 20), 6)],
             balances=[(name, token, 200) for name in PEOPLE for token in ("gold", "salt")],
@@ -49,6 +51,9 @@ class Run:
 
     def draw(self, *choices):
         return self.source.choice(choices)
+
+    def drawn_set(self):
+        return flawed_set(self.source, self.is_live)
 
     def honest(self):
         return [name for name in self.world.guards() if name not in LIARS]
@@ -178,9 +183,19 @@ class Run:
         self.world.restart(self.draw(*self.world.guards()), self.draw(0, 1, 3, 99))
 
     def step(self):
-        deed = self.draw(*DEEDS)
+        deed = self.draw(*self.deeds)
         getattr(self, "do_" + deed)()
         return deed
+
+
+def check_end(case, run):
+    """Checks that no transfer is open and that everything adds up; returns the number of the transfers."""
+    west, east = [run.world.chain(side).state(run.world.chain(side).best()) for side in SIDES]
+    case.assertEqual(open_transfers(west, east), [])
+    case.assertEqual((west.waiting(), east.waiting()), ([], []))
+    case.assertEqual(west.vault("gold"), 3 * east.circulating("gold"))
+    case.assertEqual(east.vault("salt"), west.circulating("salt"))
+    return len(west.transfers()) + len(east.transfers())
 
 
 class PromiseTest(unittest.TestCase):
@@ -247,12 +262,7 @@ class PromiseTest(unittest.TestCase):
                 run.world.calm_round()
             self.check(run)
             self.check_seals(run)
-            west, east = [run.world.chain(side).state(run.world.chain(side).best()) for side in SIDES]
-            self.assertEqual(open_transfers(west, east), [])
-            self.assertEqual((west.waiting(), east.waiting()), ([], []))
-            self.assertEqual(west.vault("gold"), 3 * east.circulating("gold"))
-            self.assertEqual(east.vault("salt"), west.circulating("salt"))
-            counts["sent"] += len(west.transfers()) + len(east.transfers())
+            counts["sent"] += check_end(self, run)
         self.assertGreater(counts["sent"], 200)
         self.assertNotIn("stopped", counts)
 

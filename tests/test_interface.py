@@ -18,6 +18,16 @@ FUNCTIONS = {
     "audit": {"shortfalls": "config west east", "open_transfers": "west east"},
     "history": {"history": "chain number account", "supplies": "chain number token"},
     "notation": {"write": "value", "read": "text", "read_letter": "text"},
+    "tree": {
+        "root": "digests leaves", "leaf_paper": "digests leaves index",
+        "check_leaf": "digests root size index leaf paper", "growth_paper": "digests leaves size",
+        "check_growth": "digests old_root old_size new_root new_size paper",
+    },
+    "evidence": {"event_leaves": "digests chain number", "evidence": "digests chain number index"},
+    "shares": {"shares": "bonds seats", "next_set": "state token seats"},
+    "statement": {
+        "statement": "config west east", "write_statement": "rows", "read_statement": "config text",
+    },
 }
 
 CLASSES = {
@@ -76,6 +86,10 @@ CLASSES = {
         "flush": "self", "crash": "self lost", "copy_from": "self other",
     }},
     "digests": {"Digests": {"__init__": "self", "number": "self value", "value": "self number", "count": "self"}},
+    "storm": {"Storm": {
+        "__init__": "self config world names", "spread": "self", "blow": "self n", "bag": "self index",
+        "relayer": "self index", "submit": "self index side",
+    }},
 }
 
 

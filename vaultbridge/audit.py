@@ -1,14 +1,11 @@
 """Looking at both ledgers from outside."""
 
+from vaultbridge.statement import statement
+
 
 def shortfalls(config, west, east):
     """The names of the tokens whose vault has less than the other side says there is, ascending."""
-    found = []
-    for token in config.token_names():
-        home, away = (west, east) if config.home(token) == "west" else (east, west)
-        if home.vault(token) < away.circulating(token) * config.scale(token):
-            found.append(token)
-    return found
+    return [token for token, _, _, spare in statement(config, west, east) if spare < 0]
 
 
 def open_transfers(west, east):

@@ -40,6 +40,8 @@ def written_integer(number):
 
 def digits_of(number):
     """The decimal digits of an integer of at least 0."""
+    if number < PIECE:
+        return str(number)
     # Python turns no integer of thousands of digits into a text at once, so it is halved until its pieces are short
     powers = []
     power = PIECE
@@ -50,7 +52,7 @@ def digits_of(number):
     for middle in reversed(powers):
         pieces = [half for piece in pieces for half in divmod(piece, middle)]
     digits = "".join([str(piece).zfill(PIECE_DIGITS) for piece in pieces])
-    return digits.lstrip("0") or "0"
+    return digits.lstrip("0")
 
 
 def parted(parts):
