@@ -28,6 +28,10 @@ FUNCTIONS = {
     "statement": {
         "statement": "config west east", "write_statement": "rows", "read_statement": "config text",
     },
+    "headers": {"header": "digests chain number"},
+    "market": {"choose": "tips room", "next_price": "price used room"},
+    "judge": {"judge": "config notary side claims"},
+    "plan": {"plan": "limit window units"},
 }
 
 CLASSES = {
@@ -90,6 +94,21 @@ CLASSES = {
         "__init__": "self config world names", "spread": "self", "blow": "self n", "bag": "self index",
         "relayer": "self index", "submit": "self index side",
     }},
+    "headers": {"Headers": {
+        "__init__": "self config digests first", "take": "self header", "final": "self", "marks": "self",
+        "accepts": "self mark index event paper",
+    }},
+    "pool": {"Pool": {
+        "__init__": "self", "assets": "self", "shares": "self", "shares_of": "self account",
+        "deposit": "self account amount", "redeem": "self account count", "earn": "self amount",
+    }},
+    "escrow": {
+        "Locks": {"__init__": "self", "lock": "self secret", "opens": "self number secret"},
+        "Escrow": {
+            "__init__": "self locks", "keep": "self owner receiver amount lock height",
+            "show": "self number secret height", "give_back": "self number height", "kept": "self",
+        },
+    },
 }
 
 

@@ -1,9 +1,8 @@
 """A ledger: its blocks, and what their orders did."""
 
 from vaultbridge.blocks import Blocks
-from vaultbridge.errors import (
-    BridgeError, ConflictsWithFinal, DuplicateBlock, UnknownBlock, UnknownParent)
-from vaultbridge.gateway import named_seals, next_height, outcome
+from vaultbridge.errors import ConflictsWithFinal, DuplicateBlock, UnknownBlock, UnknownParent
+from vaultbridge.gateway import after_block, named_seals
 from vaultbridge.state import opening_state
 
 FIRST = 0
@@ -31,25 +30,12 @@ class Chain:
             raise ConflictsWithFinal("the parent does not lie above the final block")
         for order in orders:
             self._notary.check_seals(named_seals(order))
-        self._carry_out(number, parent, orders)
+        state, events, receipts = after_block(self._config, self._notary, self._states[parent], orders)
+        self._states[number] = state
+        self._events[number] = events
+        self._receipts[number] = receipts
         self._orders[number] = orders
         self._blocks.place(number, parent)
-
-    def _carry_out(self, number, parent, orders):
-        """Keeps what the orders of a block do to the state after its parent."""
-        state = next_height(self._states[parent])
-        receipts = []
-        events = []
-        for order in orders:
-            try:
-                state, told = outcome(self._config, self._notary, state, order)
-                events.extend(told)
-                receipts.append("done")
-            except BridgeError as error:
-                receipts.append(error.word())
-        self._states[number] = state
-        self._receipts[number] = receipts
-        self._events[number] = events
 
     def depth(self):
         """How far below another block a block is deep."""

@@ -332,3 +332,18 @@ def next_height(state):
     after = state.copy()
     after.rise()
     return after
+
+
+def after_block(config, notary, state, orders):
+    """Returns the state, the events and the outcomes of the orders of a block, given the state after its parent."""
+    state = next_height(state)
+    events = []
+    receipts = []
+    for order in orders:
+        try:
+            state, told = outcome(config, notary, state, order)
+            events.extend(told)
+            receipts.append("done")
+        except BridgeError as error:
+            receipts.append(error.word())
+    return (state, events, receipts)

@@ -1,0 +1,23 @@
+"""A plan: at which heights transfers can pass a limit."""
+
+
+def plan(limit, window, units):
+    """The heights at which transfers with these units can pass, one after the other; None for those that never can."""
+    heights = []
+    passed = []
+    oldest = 0
+    inside = 0
+    height = 0
+    for many in units:
+        if many > limit:
+            heights.append(None)
+            continue
+        # the oldest ones leave the window, until it has room; some of them may have left it before
+        while inside + many > limit:
+            height = max(height, passed[oldest][0] + window)
+            inside -= passed[oldest][1]
+            oldest += 1
+        inside += many
+        passed.append((height, many))
+        heights.append(height)
+    return heights
