@@ -7,6 +7,7 @@ from tests.bench import made_config
 from tests.test_bridge import HONEST, PEOPLE, SIDES, Run, check_end
 from vaultbridge.audit import shortfalls
 from vaultbridge.bag import Bag
+from vaultbridge.errors import UnknownSeal
 from vaultbridge.gateway import next_height
 from vaultbridge.relay import ready_orders
 from vaultbridge.relayer import Relayer
@@ -162,6 +163,21 @@ class StormTest(StormCase):
         self.storm.relayer(1).crash(9)
         # one of the numbers let it flush
         self.assertEqual(self.state()[1][1], [2, 0])
+
+    def test_an_item_that_is_no_seal(self):
+        """Somebody may put any integer into a bag; handing it over is refused, and it stays there."""
+        self.begin("rel", "cat")
+        self.make_seals(2)
+        self.storm.bag(1).post(99)
+        self.storm.spread()
+        before = self.state()
+        with self.assertRaises(UnknownSeal) as held:
+            self.blow(1, 0, 0)
+        self.assertIs(type(held.exception), UnknownSeal)
+        self.assertEqual(self.state(), before)
+        self.blow(1, 0, 1)
+        self.blow(1, 1, 0)
+        self.assertEqual(self.state(), ([[0, 1], [1]], [[], [0]]))
 
     def test_drawn_deeds(self):
         for seed in range(60):

@@ -12,9 +12,9 @@ def plan(limit, window, units):
         if many > limit:
             heights.append(None)
             continue
-        # the oldest ones leave the window, until it has room; some of them may have left it before
+        # the oldest ones leave the window, until it has room; their heights do not fall, and so this one does not
         while inside + many > limit:
-            height = max(height, passed[oldest][0] + window)
+            height = passed[oldest][0] + window
             inside -= passed[oldest][1]
             oldest += 1
         inside += many

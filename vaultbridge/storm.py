@@ -64,7 +64,9 @@ class Storm:
 def shake(relayer, bag, deed, index):
     """Hands an item of a bag over to the relayer, loses it or doubles it."""
     if deed == HAND_OVER:
-        relayer.receive(bag.hand_over(index))
+        # it leaves the bag last: the relayer refuses an item that is no seal
+        relayer.receive(bag.items_under_way()[index])
+        bag.hand_over(index)
     elif deed == LOSE:
         bag.lose(index)
     else:
